@@ -1,0 +1,1 @@
+"""Heldtones: songs whose tones are held over."""
