@@ -5,8 +5,9 @@ from unittest import mock
 
 from heldtones.books import Book
 from heldtones.errors import (
-    DoubleName, DoubleTone, InvalidName, InvalidTone, ToneError, UnknownChange, UnknownChord,
+    DoubleName, DoubleTone, InvalidName, InvalidTone, UnknownChange, UnknownChord,
 )
+from tests.cases import ErrorCase
 
 ONE, FIFTH, THIRD = (0, 0, 0), (-1, 1, 0), (-2, 0, 1)
 # Texts that are no names: empty, too long, or with other signs than letters from a to z.
@@ -23,16 +24,7 @@ def changes():
             ("wide", "g", 2, "g", 1)]
 
 
-class BookCase(unittest.TestCase):
-    def check_error(self, error, value, call, *arguments, **named):
-        with self.assertRaises(ToneError) as caught:
-            call(*arguments, **named)
-        self.assertIs(type(caught.exception), error)
-        self.assertEqual(caught.exception.value, value)
-        self.assertIs(type(caught.exception.value), type(value))
-
-
-class ConstructionTest(BookCase):
+class ConstructionTest(ErrorCase):
     def test_chords_and_changes_in_order(self):
         book = Book(chords(), changes())
         self.assertEqual(book.chords, chords())
@@ -90,7 +82,7 @@ class ConstructionTest(BookCase):
             iter(Book(chords(), changes()))
 
 
-class KeptApartTest(BookCase):
+class KeptApartTest(ErrorCase):
     def test_lists_handed_in_stay_as_they_are(self):
         told, ways = chords(), changes()
         book = Book(told, ways)
@@ -159,7 +151,7 @@ class KeptApartTest(BookCase):
         self.assertEqual((book.chords, book.changes), (chords(), changes()))
 
 
-class ChordErrorsTest(BookCase):
+class ChordErrorsTest(ErrorCase):
     def test_invalid_name(self):
         for name in NO_NAMES:
             self.check_error(InvalidName, name, Book, [("c", []), (name, [])], [])
@@ -194,7 +186,7 @@ class ChordErrorsTest(BookCase):
         self.check_error(DoubleTone, ("c", 1), Book, [("c", [ONE, ONE])], bad)
 
 
-class ChangeErrorsTest(BookCase):
+class ChangeErrorsTest(ErrorCase):
     def check_changes(self, error, value, *ways):
         told = chords()
         self.check_error(error, value, Book, told, list(ways))
@@ -250,7 +242,7 @@ class ChangeErrorsTest(BookCase):
         self.check_changes(InvalidName, "UP", ("UP", "c", 0, "c", 0), ("up", "d", 0, "c", 0))
 
 
-class MethodsTest(BookCase):
+class MethodsTest(ErrorCase):
     def setUp(self):
         self.book = Book(chords(), changes())
 
@@ -313,7 +305,7 @@ class MethodsTest(BookCase):
         self.assertEqual(Book([], []).backward(), Book([], []))
 
 
-class EqualityTest(BookCase):
+class EqualityTest(ErrorCase):
     def check_equal(self, one, other, equal):
         self.assertIs(one == other, equal)
         self.assertIs(other == one, equal)

@@ -4,8 +4,9 @@ import random
 import unittest
 
 from heldtones.books import Book, changes_of, follow, parts
-from heldtones.errors import ToneError, UnknownChange, UnknownChord, WrongSong
+from heldtones.errors import UnknownChange, UnknownChord, WrongSong
 from heldtones.ratios import times
+from tests.cases import ErrorCase
 
 ONE, FIFTH, THIRD = (0, 0, 0), (-1, 1, 0), (-2, 0, 1)
 NO_NAMES = ["", "abcdefghi", "C", "c1", "c d", "~", "x" * 3000]
@@ -17,16 +18,7 @@ def graph(chords, steps):
                 [(step, step[0], 1, step[1], 0) for step in steps])
 
 
-class SongCase(unittest.TestCase):
-    def check_error(self, error, value, call, *arguments, **named):
-        with self.assertRaises(ToneError) as caught:
-            call(*arguments, **named)
-        self.assertIs(type(caught.exception), error)
-        self.assertEqual(caught.exception.value, value)
-        self.assertIs(type(caught.exception.value), type(value))
-
-
-class FollowTest(SongCase):
+class FollowTest(ErrorCase):
     def setUp(self):
         self.chords = [("c", [ONE, FIFTH]), ("g", [ONE, THIRD, FIFTH]), ("rest", [])]
         self.changes = [("up", "c", 1, "g", 0), ("down", "g", 0, "c", 1), ("stay", "c", 0, "c", 0),
@@ -96,7 +88,7 @@ class FollowTest(SongCase):
         self.check_error(UnknownChange, "no", follow, self.book, "c", ["down", "no", "nope"])
 
 
-class PartsTest(SongCase):
+class PartsTest(ErrorCase):
     def test_nothing_at_all(self):
         self.assertEqual(parts(Book([], [])), [])
 
@@ -179,7 +171,7 @@ class PartsTest(SongCase):
         self.assertEqual((book.chords, book.changes), kept)
 
 
-class DrawnBooksTest(SongCase):
+class DrawnBooksTest(ErrorCase):
     """Answers beside those of songs that are tried out one after the other."""
 
     def ends_of_songs(self, book, chord):
