@@ -66,9 +66,9 @@ class Book:
 
 def follow(book, chord, song):
     """Return the chord to which a song from a chord leads, and the shift of the song."""
-    if chord not in _names(book):
+    if chord not in chord_names(book):
         raise UnknownChord(chord)
-    ends = _ends(book)
+    ends = ends_of(book)
     for name in song:
         if name not in ends:
             raise UnknownChange(name)
@@ -85,9 +85,9 @@ def follow(book, chord, song):
 
 def parts(book):
     """Return the list of the parts, each the list of its chords in order."""
-    names = _names(book)
-    steps = list(_ends(book).values())
-    led = {name: _led_to(steps, name) for name in names}
+    names = chord_names(book)
+    steps = list(ends_of(book).values())
+    led = {name: led_to(steps, name) for name in names}
     around = [
         [other for other in names if other in led[name] and name in led[other]]
         for name in names
@@ -108,9 +108,31 @@ def changes_of(book, chord):
     """Return the names of the changes that are in the part of a chord, in order."""
     part = part_of(book, chord)
     return [
-        name for name, (first, second) in _ends(book).items()
+        name for name, (first, second) in ends_of(book).items()
         if first in part and second in part
     ]
+
+
+def chord_names(book):
+    """Return the names of the chords, in order."""
+    return [chord[0] for chord in book.chords]
+
+
+def ends_of(book):
+    """Return the first and the second chord of each change by its name, in order."""
+    return {change[0]: (change[1], change[3]) for change in book.changes}
+
+
+def led_to(steps, chord):
+    """Return the chords to which rows of steps, tuples of two chords, lead from a chord."""
+    found = [chord]
+    done = 0
+    while done < len(found):
+        for first, second in steps:
+            if first == found[done] and second not in found:
+                found.append(second)
+        done += 1
+    return found
 
 
 def _chord_table(chords):
@@ -146,25 +168,3 @@ def _check_name(name, ahead):
         raise InvalidName(name)
     if name in ahead:
         raise DoubleName(name)
-
-
-def _names(book):
-    """Return the names of the chords, in order."""
-    return [chord[0] for chord in book.chords]
-
-
-def _ends(book):
-    """Return the first and the second chord of each change by its name, in order."""
-    return {change[0]: (change[1], change[3]) for change in book.changes}
-
-
-def _led_to(steps, chord):
-    """Return the chords to which rows of steps, tuples of two chords, lead from a chord."""
-    found = [chord]
-    done = 0
-    while done < len(found):
-        for first, second in steps:
-            if first == found[done] and second not in found:
-                found.append(second)
-        done += 1
-    return found

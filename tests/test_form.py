@@ -14,6 +14,10 @@ INTERFACE = {
     ],
     "ratios.py": ["times", "over", "is_greater", "fraction"],
     "books.py": ["Book", "follow", "parts", "changes_of"],
+    "pitches.py": ["pitches", "drifting", "keeps", "even_numbers", "weights", "judge_even",
+                   "judge_weights", "is_even", "song_of"],
+    "drifts.py": ["lattice", "can_come", "come_numbers", "judge_numbers", "rests", "judge_rests"],
+    "heights.py": ["highest", "lowest", "highest_song", "lowest_song", "rising", "sinking"],
 }
 SOURCES = ["heldtones", "heapq", "math", "itertools", "collections"]
 METHODS = {
