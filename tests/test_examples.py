@@ -56,6 +56,25 @@ HEIGHTS = """
 [(-2, 2, 0), ['more'], (0, 0, 0)]
 """
 
+SINGERS = """
+>>> from heldtones.books import Book
+>>> from heldtones.singers import Singer, SteadySinger
+>>> one = [(0, 0, 0), (-1, 1, 0)]
+>>> book = Book([("c", one)], [("up", "c", 1, "c", 0), ("stay", "c", 0, "c", 0)])
+>>> singer, steady = Singer(book, "c"), SteadySinger(book, "c")
+>>> [singer("up"), singer.drift(), singer("stay"), singer.drift(), singer.undo(), singer.pitch, len(singer), singer.able(), steady.able(), steady("stay"), steady == singer]
+[(-1, 1, 0), (-1, 1, 0), (-1, 1, 0), (0, 0, 0), None, (-1, 1, 0), 1, ['up', 'stay'], ['stay'], (0, 0, 0), False]
+"""
+
+READINGS = """
+>>> from heldtones.books import Book
+>>> from heldtones.readings import read_book, read_ratio
+>>> from heldtones.texts import show_book, show_ratio
+>>> book = Book([("c", [(0, 0, 0), (-1, 1, 0)])], [("up", "c", 1, "c", 0)])
+>>> [show_ratio((-4, 4, -1)), show_book(book), read_ratio("0,-1,12"), read_book(show_book(book)) == book, show_book(Book([], []))]
+['-4,4,-1', 'chord c 0,0,0 -1,1,0; up: c.1 = c.0', (0, -1, 12), True, '']
+"""
+
 
 class ExamplesTest(unittest.TestCase):
     def check(self, text, head):
@@ -79,6 +98,12 @@ class ExamplesTest(unittest.TestCase):
 
     def test_heights(self):
         self.check(HEIGHTS, "heights")
+
+    def test_singers(self):
+        self.check(SINGERS, "singers")
+
+    def test_texts_and_readings(self):
+        self.check(READINGS, "readings")
 
     def test_readme(self):
         with open(README, encoding="utf-8") as file:

@@ -18,11 +18,17 @@ INTERFACE = {
                    "judge_weights", "is_even", "song_of"],
     "drifts.py": ["lattice", "can_come", "come_numbers", "judge_numbers", "rests", "judge_rests"],
     "heights.py": ["highest", "lowest", "highest_song", "lowest_song", "rising", "sinking"],
+    "singers.py": ["Singer", "SteadySinger"],
+    "texts.py": ["show_ratio", "show_book"],
+    "readings.py": ["read_ratio", "read_book"],
 }
 SOURCES = ["heldtones", "heapq", "math", "itertools", "collections"]
 METHODS = {
     "Book": ["__init__", "chords", "changes", "shift", "__getitem__", "__len__", "without",
              "backward", "__eq__"],
+    "Singer": ["__init__", "__call__", "chord", "pitch", "song", "able", "drift", "undo", "sing_all",
+               "__len__", "__eq__"],
+    "SteadySinger": ["__init__", "__call__", "able", "sing_all", "__eq__"],
 }
 
 
