@@ -14,6 +14,8 @@ class Book:
     def __init__(self, chords, changes):
         self._chords = _chord_table(chords)
         self._changes = _change_table(self._chords, changes)
+        # Whatever is asked of a book begins with these.
+        self._steps = _step_table(self._chords, self._changes)
 
     def __eq__(self, other):
         if not isinstance(other, Book):
@@ -42,12 +44,16 @@ class Book:
         """The changes, a new list of tuples (name, chord, tone, chord, tone)."""
         return [(name, *ends) for name, ends in self._changes.items()]
 
+    @property
+    def steps(self):
+        """The first chord, the second chord and the shift of each change by its name, a new dict."""
+        return dict(self._steps)
+
     def shift(self, name):
         """Return the pitch of the second chord of a change over that of the first one."""
-        if name not in self._changes:
+        if name not in self._steps:
             raise UnknownChange(name)
-        first, held, second, same = self._changes[name]
-        return over(self._chords[first][held], self._chords[second][same])
+        return self._steps[name][2]
 
     def without(self, name):
         """Return the book without a change."""
@@ -68,67 +74,64 @@ def follow(book, chord, song):
     """Return the chord to which a song from a chord leads, and the shift of the song."""
     if chord not in chord_names(book):
         raise UnknownChord(chord)
-    ends = ends_of(book)
+    steps = book.steps
     for name in song:
-        if name not in ends:
+        if name not in steps:
             raise UnknownChange(name)
     now = chord
     shift = UNISON
     for index, name in enumerate(song):
-        first, second = ends[name]
+        first, second, own = steps[name]
         if first != now:
             raise WrongSong(index)
         now = second
-        shift = times(shift, book.shift(name))
+        shift = times(shift, own)
     return (now, shift)
 
 
 def parts(book):
     """Return the list of the parts, each the list of its chords in order."""
-    names = chord_names(book)
-    steps = list(ends_of(book).values())
-    led = {name: led_to(steps, name) for name in names}
-    around = [
-        [other for other in names if other in led[name] and name in led[other]]
-        for name in names
-    ]
-    # Each chord of a part has the whole part around it: only its first one tells it.
-    return [part for name, part in zip(names, around) if part[0] == name]
+    told = []
+    for name in chord_names(book):
+        if not any([name in part for part in told]):
+            told.append(part_of(book, name))
+    return told
 
 
 def part_of(book, chord):
     """Return the list of the chords that are in one part with a chord, in order."""
-    for part in parts(book):
-        if chord in part:
-            return part
-    raise UnknownChord(chord)
+    names = chord_names(book)
+    if chord not in names:
+        raise UnknownChord(chord)
+    ways = [(first, second) for first, second, _ in book.steps.values()]
+    onward = led_to(ways, chord)
+    backward = led_to([(second, first) for first, second in ways], chord)
+    return [name for name in names if name in onward and name in backward]
+
+
+def steps_within(book, part):
+    """Return the steps of the changes that are in a part, the list of its chords, in order."""
+    return {
+        name: step for name, step in book.steps.items() if step[0] in part and step[1] in part
+    }
 
 
 def changes_of(book, chord):
     """Return the names of the changes that are in the part of a chord, in order."""
-    part = part_of(book, chord)
-    return [
-        name for name, (first, second) in ends_of(book).items()
-        if first in part and second in part
-    ]
+    return list(steps_within(book, part_of(book, chord)))
 
 
 def chord_names(book):
     """Return the names of the chords, in order."""
-    return [chord[0] for chord in book.chords]
+    return list(book._chords)
 
 
-def ends_of(book):
-    """Return the first and the second chord of each change by its name, in order."""
-    return {change[0]: (change[1], change[3]) for change in book.changes}
-
-
-def led_to(steps, chord):
-    """Return the chords to which rows of steps, tuples of two chords, lead from a chord."""
+def led_to(ways, chord):
+    """Return the chords to which rows of ways, tuples of two chords, lead from a chord."""
     found = [chord]
     done = 0
     while done < len(found):
-        for first, second in steps:
+        for first, second in ways:
             if first == found[done] and second not in found:
                 found.append(second)
         done += 1
@@ -160,6 +163,14 @@ def _change_table(chords, changes):
                 raise InvalidTone((chord, index))
         table[name] = (first, held, second, same)
     return table
+
+
+def _step_table(chords, changes):
+    """Return the two chords and the shift of each change by its name."""
+    return {
+        name: (first, second, over(chords[first][held], chords[second][same]))
+        for name, (first, held, second, same) in changes.items()
+    }
 
 
 def _check_name(name, ahead):

@@ -1,28 +1,28 @@
 """How high and how low songs go."""
 
-from heldtones.books import chord_names, ends_of, follow
+from heldtones.books import chord_names
 from heldtones.errors import UnknownChord
 from heldtones.ratios import UNISON, is_greater, times
 
 
 def highest(book, chord):
     """Return the greatest shift of all songs from a chord, None if there is none."""
-    return _shift_of(book, chord, highest_song(book, chord))
+    return _farthest(book, chord, True)[0]
 
 
 def lowest(book, chord):
     """Return the least shift of all songs from a chord, None if there is none."""
-    return _shift_of(book, chord, lowest_song(book, chord))
+    return _farthest(book, chord, False)[0]
 
 
 def highest_song(book, chord):
     """Return a song from a chord with the greatest shift, None if there is none."""
-    return _farthest_song(book, chord, True)
+    return _farthest(book, chord, True)[1]
 
 
 def lowest_song(book, chord):
     """Return a song from a chord with the least shift, None if there is none."""
-    return _farthest_song(book, chord, False)
+    return _farthest(book, chord, False)[1]
 
 
 def rising(book, chord):
@@ -35,28 +35,21 @@ def sinking(book, chord):
     return _going_round(book, chord, False)
 
 
-def _shift_of(book, chord, song):
-    """Return the shift of a song from a chord, None if there is no song."""
-    if song is None:
-        return None
-    return follow(book, chord, song)[1]
-
-
-def _farthest_song(book, chord, upward):
-    """Return a song from a chord that goes as far up, or down, as any; None if there is none."""
-    if _going_round(book, chord, upward) is not None:
-        return None
-    shift, song = (UNISON, [])
-    for farther, other in _best_songs(book, chord, upward).values():
-        if _is_better(farther, shift, upward):
-            shift, song = farther, other
-    return song
+def _farthest(book, chord, upward):
+    """Return how far up, or down, songs from a chord go, and one that does; None twice if none is."""
+    best, longer = _best_songs(book, chord, upward)
+    if longer != best:
+        return (None, None)
+    farthest = (UNISON, [])
+    for shift, song in best.values():
+        if _is_better(shift, farthest[0], upward):
+            farthest = (shift, song)
+    return farthest
 
 
 def _going_round(book, chord, upward):
     """Return songs, one to and one for ever round, that go up, or down; None if there are none."""
-    best = _best_songs(book, chord, upward)
-    longer = _grown(book, best, upward)
+    best, longer = _best_songs(book, chord, upward)
     for name in best:
         # With more changes than there are chords but one, it comes to a chord twice. What is
         # between goes up, or down, as otherwise the song would be no better without it.
@@ -68,24 +61,30 @@ def _going_round(book, chord, upward):
 def _best_songs(book, chord, upward):
     """Return, for each chord to which songs lead from a chord, the shift of the best, and it.
 
-    Told are songs with fewer changes than there are chords.
+    Told are songs with fewer changes than there are chords, then those that may have one more.
     """
     names = chord_names(book)
     if chord not in names:
         raise UnknownChord(chord)
+    steps = book.steps
     best = {chord: (UNISON, [])}
+    longer = _grown(steps, best, upward)
     for _ in names[1:]:
-        best = _grown(book, best, upward)
-    return best
+        # Where no song is better by a change more, none is by several.
+        if longer == best:
+            break
+        best = longer
+        longer = _grown(steps, best, upward)
+    return (best, longer)
 
 
-def _grown(book, best, upward):
+def _grown(steps, best, upward):
     """Return the best songs, if those that are told may be longer by a change."""
     grown = dict(best)
-    for name, (first, second) in ends_of(book).items():
+    for name, (first, second, own) in steps.items():
         if first in best:
             shift, song = best[first]
-            farther = times(shift, book.shift(name))
+            farther = times(shift, own)
             if second not in grown or _is_better(farther, grown[second][0], upward):
                 grown[second] = (farther, song + [name])
     return grown
@@ -100,10 +99,10 @@ def _is_better(one, other, upward):
 
 def _cut(book, chord, song):
     """Return the lead of a song that comes to a chord twice, and what is between both times."""
-    ends = ends_of(book)
+    steps = book.steps
     trail = [chord]
     for name in song:
-        now = ends[name][1]
+        now = steps[name][1]
         if now in trail:
             start = trail.index(now)
             return (song[:start], song[start:len(trail)])

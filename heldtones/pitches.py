@@ -1,35 +1,30 @@
 """Pitches to which songs keep, songs that drift, and changes that can be made good."""
 
-from math import gcd
-
-from heldtones.books import chord_names, changes_of, ends_of, part_of, parts
-from heldtones.cones import cone
+from heldtones.books import chord_names, part_of, parts, steps_within
 from heldtones.errors import UnknownChange, UnknownChord, WrongNumbers
+from heldtones.evenness import balances, even_counts, hindrance, uneven_weights
 from heldtones.ratios import UNISON, times
 from heldtones.tallies import come_back, listed, makes_song, tally, total_shift
-from heldtones.weighings import by_name, weighed_changes
+from heldtones.ways import ways_from
+from heldtones.weighings import by_name, weighed_steps
 
 
 def pitches(book):
     """Return pitches of all chords to which the changes of all parts keep, None if there are none."""
     found = {}
     for part in parts(book):
-        names = changes_of(book, part[0])
-        found[part[0]] = UNISON
-        # Each round comes at least one change further, until the whole part is there.
-        for _ in part:
-            found = _further(book, names, found)
-    told = [(name, found[name]) for name in chord_names(book)]
-    if keeps(book, told):
-        return told
-    return None
+        steps = steps_within(book, part)
+        for name, row in ways_from(steps, part[0], len(UNISON)).items():
+            found[name] = (row[0], row[1], row[2])
+        if not _keep_to(steps, found):
+            return None
+    return [(name, found[name]) for name in chord_names(book)]
 
 
 def drifting(book):
     """Return the first song that comes back with a drift, as (chord, song), None if there is none."""
     songs = [
-        ([first, second], book.shift(name), [name])
-        for name, (first, second) in ends_of(book).items()
+        ([first, second], shift, [name]) for name, (first, second, shift) in book.steps.items()
     ]
     while songs != []:
         for trail, shift, song in songs:
@@ -44,96 +39,80 @@ def keeps(book, told):
     table = by_name(told, chord_names(book))
     if table is None:
         return False
-    ends = ends_of(book)
-    for part in parts(book):
-        for name in changes_of(book, part[0]):
-            first, second = ends[name]
-            if times(table[first], book.shift(name)) != table[second]:
-                return False
-    return True
+    return all([_keep_to(steps_within(book, part), table) for part in parts(book)])
 
 
 def even_numbers(book, name):
     """Return numbers of songs that are even together and have a change, None if there are none."""
-    names = _changes_beside(book, name)
-    if names == []:
+    part, steps = _part_beside(book, name)
+    if part == []:
         return None
-    multiples, scale, _ = _made_good(book, name)
-    if multiples is None:
+    counts = even_counts(balances(part, steps), name)
+    if counts is None:
         return None
-    counts = {other: number for other, number in zip(names, multiples)}
-    counts[name] += scale
-    common = _divisor(list(counts.values()))
-    return listed(book, {other: number // common for other, number in counts.items()})
+    return listed(book, counts)
 
 
 def weights(book, name):
     """Return (weights, heights) by which a change cannot be made good, None if it can."""
-    if _changes_beside(book, name) == []:
+    part, steps = _part_beside(book, name)
+    if part == []:
         return ((0, 0, 0), [])
-    told = _made_good(book, name)[2]
+    told = uneven_weights(balances(part, steps), name)
     if told is None:
         return None
-    common = _divisor(told)
-    told = [number // common for number in told]
-    part = part_of(book, ends_of(book)[name][0])
     return ((told[0], told[1], told[2]), list(zip(part, told[3:])))
 
 
 def judge_even(book, name, numbers):
     """Return whether numbers are those of songs that are even together and have a change."""
-    names = _changes_beside(book, name)
+    steps = _part_beside(book, name)[1]
     counts = tally(numbers)
     if counts is None or name not in counts:
         return False
-    if any([other not in names or number < 1 for other, number in numbers]):
+    if any([other not in steps or number < 1 for other, number in numbers]):
         return False
     return come_back(book, counts) and total_shift(book, counts) == UNISON
 
 
 def judge_weights(book, name, told):
     """Return whether (weights, heights) show that a change cannot be made good."""
-    names = _changes_beside(book, name)
-    if names == []:
+    part, steps = _part_beside(book, name)
+    if part == []:
         return True
     numbers, levels = told
-    heights = by_name(levels, part_of(book, ends_of(book)[name][0]))
+    heights = by_name(levels, part)
     if heights is None:
         return False
-    worths = weighed_changes(book, names, numbers, heights)
+    worths = weighed_steps(steps, numbers, heights)
     return worths[name] > 0 and all([worth >= 0 for worth in worths.values()])
 
 
 def is_even(book, chord):
     """Return whether each change in the part of a chord can be made good."""
-    return all([even_numbers(book, name) is not None for name in changes_of(book, chord)])
+    part = part_of(book, chord)
+    return hindrance(balances(part, steps_within(book, part))) is None
 
 
 def song_of(book, chord, numbers):
     """Return a song from a chord with just these numbers of times of its changes."""
     if chord not in chord_names(book):
         raise UnknownChord(chord)
-    ends = ends_of(book)
+    steps = book.steps
     for name, _ in numbers:
-        if name not in ends:
+        if name not in steps:
             raise UnknownChange(name)
     counts = tally(numbers)
     if counts is None or any([number < 0 for number in counts.values()]):
         raise WrongNumbers(list(numbers))
     if not any([makes_song(book, chord, other, counts) for other in chord_names(book)]):
         raise WrongNumbers(list(numbers))
-    return _sung(ends, chord, counts)
+    return _sung(steps, chord, counts)
 
 
-def _further(book, names, found):
-    """Return the pitches that are found, and those of chords to which changes lead from these."""
-    told = dict(found)
-    ends = ends_of(book)
-    for name in names:
-        first, second = ends[name]
-        if first in told and second not in told:
-            told[second] = times(told[first], book.shift(name))
-    return told
+def _keep_to(steps, found):
+    """Return whether all of some steps lead from the found pitch of a chord to that of a chord."""
+    return all([times(found[first], shift) == found[second] for first, second, shift in steps.values()])
 
 
 def _longer(book, songs):
@@ -143,52 +122,28 @@ def _longer(book, songs):
     that comes back and drifts is made up of such songs, one of which drifts.
     """
     longer = []
-    ends = ends_of(book)
+    steps = book.steps
     for trail, shift, song in songs:
-        for name, (first, second) in ends.items():
+        for name, (first, second, own) in steps.items():
             goes_on = first == trail[-1] and first != trail[0]
             if goes_on and second not in trail[1:]:
-                longer.append((trail + [second], times(shift, book.shift(name)), song + [name]))
+                longer.append((trail + [second], times(shift, own), song + [name]))
     return longer
 
 
-def _changes_beside(book, name):
-    """Return the changes that are in the part of a change, in order; none if it is in no part."""
-    ends = ends_of(book)
-    if name not in ends:
+def _part_beside(book, name):
+    """Return the chords and the steps of the part in which a change is; none if it is in no part."""
+    steps = book.steps
+    if name not in steps:
         raise UnknownChange(name)
-    names = changes_of(book, ends[name][0])
-    if name in names:
-        return names
-    return []
+    first, second, _ = steps[name]
+    part = part_of(book, first)
+    if second not in part:
+        return ([], {})
+    return (part, steps_within(book, part))
 
 
-def _made_good(book, name):
-    """Return how a change of a part is made good by all of them, or why not, as a cone tells it."""
-    ends = ends_of(book)
-    part = part_of(book, ends[name][0])
-    rows = {other: _row(book, part, other) for other in changes_of(book, part[0])}
-    return cone(list(rows.values()), [-number for number in rows[name]])
-
-
-def _row(book, part, name):
-    """Return the exponents of the shift of a change, and how often it leads to each chord."""
-    first, second = ends_of(book)[name]
-    leads = {chord: 0 for chord in part}
-    leads[first] -= 1
-    leads[second] += 1
-    return list(book.shift(name)) + list(leads.values())
-
-
-def _divisor(numbers):
-    """Return the greatest common divisor of some integers, not all of them 0."""
-    common = 0
-    for number in numbers:
-        common = gcd(common, number)
-    return common
-
-
-def _sung(ends, chord, counts):
+def _sung(steps, chord, counts):
     """Return a song with a tally that is one of a song from a chord."""
     left = dict(counts)
     trail = [(chord, None)]
@@ -197,20 +152,20 @@ def _sung(ends, chord, counts):
     # tally comes back to a chord ahead, and is put in there.
     while trail != []:
         now, name = trail[-1]
-        onward = _onward(ends, left, now)
+        onward = _onward(steps, left, now)
         if onward is None:
             trail.pop()
             song.append(name)
         else:
             left[onward] -= 1
-            trail.append((ends[onward][1], onward))
+            trail.append((steps[onward][1], onward))
     # From back to front; the last one is that of the first chord, to which no change led.
     return song[:-1][::-1]
 
 
-def _onward(ends, left, chord):
+def _onward(steps, left, chord):
     """Return the first change that is left and leads from a chord, None if there is none."""
     for name, number in left.items():
-        if number > 0 and ends[name][0] == chord:
+        if number > 0 and steps[name][0] == chord:
             return name
     return None

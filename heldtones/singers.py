@@ -1,6 +1,6 @@
 """Singers, who sing the changes of a book one after the other."""
 
-from heldtones.books import chord_names, ends_of
+from heldtones.books import chord_names
 from heldtones.errors import NothingToUndo, UnknownChange, UnknownChord, WrongSong
 from heldtones.ratios import UNISON, over, times
 
@@ -45,7 +45,7 @@ class Singer:
     def able(self):
         """Return the names of the changes that lead from the chord now, in order."""
         now = self._trail[-1][0]
-        return [name for name, (first, _) in ends_of(self._book).items() if first == now]
+        return [name for name, step in self._book.steps.items() if step[0] == now]
 
     def drift(self):
         """Return the pitch now over that of the last time at this chord, None if it is the first."""
@@ -106,14 +106,14 @@ class SteadySinger(Singer):
 
 def _next_place(book, trail, name):
     """Return the chord and the pitch to which a change leads from the last ones of a trail."""
-    ends = ends_of(book)
-    if name not in ends:
+    steps = book.steps
+    if name not in steps:
         raise UnknownChange(name)
     now, pitch = trail[-1]
-    first, second = ends[name]
+    first, second, shift = steps[name]
     if first != now:
         raise WrongSong(name)
-    return (second, times(pitch, book.shift(name)))
+    return (second, times(pitch, shift))
 
 
 def _next_steady_place(book, trail, name):

@@ -1,6 +1,6 @@
 """Tallies: dicts of how often each of some changes is sung."""
 
-from heldtones.books import chord_names, ends_of, led_to
+from heldtones.books import chord_names, led_to
 from heldtones.ratios import UNISON
 from heldtones.rows import added
 
@@ -15,14 +15,15 @@ def tally(numbers):
 
 def listed(book, counts):
     """Return the numbers of a tally that are not 0, as tuples (change, number) in order."""
-    return [(name, counts[name]) for name in ends_of(book) if counts.get(name, 0) != 0]
+    return [(name, counts[name]) for name in book.steps if counts.get(name, 0) != 0]
 
 
 def total_shift(book, counts):
     """Return the product of the shifts of the changes of a tally."""
+    steps = book.steps
     shift = list(UNISON)
     for name, number in counts.items():
-        shift = added(shift, book.shift(name), number)
+        shift = added(shift, steps[name][2], number)
     return tuple(shift)
 
 
@@ -39,18 +40,20 @@ def makes_song(book, chord, other, counts):
     surpluses[chord] += 1
     if not all([number == 0 for number in surpluses.values()]):
         return False
-    ends = ends_of(book)
-    steps = [ends[name] for name, number in counts.items() if number > 0]
-    near = led_to(steps + [(second, first) for first, second in steps], chord)
-    return all([first in near for first, _ in steps])
+    ways = [
+        (first, second) for name, (first, second, _) in book.steps.items()
+        if counts.get(name, 0) > 0
+    ]
+    near = led_to(ways + [(second, first) for first, second in ways], chord)
+    return all([first in near for first, _ in ways])
 
 
 def _surpluses(book, counts):
     """Return for each chord how many more changes of a tally lead to it than from it."""
+    steps = book.steps
     surpluses = {name: 0 for name in chord_names(book)}
-    ends = ends_of(book)
     for name, number in counts.items():
-        first, second = ends[name]
+        first, second, _ = steps[name]
         surpluses[first] -= number
         surpluses[second] += number
     return surpluses

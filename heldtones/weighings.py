@@ -1,6 +1,5 @@
 """Weighings: ratios are weighed by integers, one for each exponent, and chords have heights."""
 
-from heldtones.books import ends_of
 from heldtones.rows import weighed
 
 
@@ -17,7 +16,9 @@ def lifted(weights, heights, ratio, ends):
     return weighed(weights, ratio) + heights[second] - heights[first]
 
 
-def weighed_changes(book, names, weights, heights):
-    """Return what the shift of each of some changes weighs, with the heights of its chords."""
-    ends = ends_of(book)
-    return {name: lifted(weights, heights, book.shift(name), ends[name]) for name in names}
+def weighed_steps(steps, weights, heights):
+    """Return what the shift of each of some steps weighs, with the heights of its chords."""
+    return {
+        name: lifted(weights, heights, shift, (first, second))
+        for name, (first, second, shift) in steps.items()
+    }
